@@ -5,6 +5,7 @@ import (
 	"iter"
 
 	"bags/api"
+	"bags/check"
 	"bags/fault"
 	"bags/parse"
 	"bags/tables"
@@ -29,7 +30,12 @@ func Print(query string) (string, error) {
 }
 
 // Query answers a query; limits: how many rows may come out (P6 to P14).
-func (d *DB) Query(query string, limits ...int) (*Result, error) { return nil, nil }
+func (d *DB) Query(query string, limits ...int) (*Result, error) {
+	return fault.Catch(api.ErrType, func() *Result {
+		check.Query(d.tables, parse.Query(query))
+		return &Result{}
+	})
+}
 
 // Columns tells the columns' names (P14).
 func (r *Result) Columns() []string { return nil }

@@ -36,17 +36,19 @@ func strange() []string {
 	return list
 }
 
-// answer is what Open and Print tell of one input.
+// answer is what Open, Print and Query tell of one input.
 type answer struct {
 	openKind, openAt   int
 	printed            string
 	printKind, printAt int
+	queryKind, queryAt int
 }
 
 func ask(s string) answer {
 	var a answer
 	a.openKind, a.openAt = plain.Open(s)
 	a.printed, a.printKind, a.printAt = plain.Print(s)
+	_, _, a.queryKind, a.queryAt = plain.Run("table t a int b int\ntable u b int\ntable x a int\n", s, nil)
 	return a
 }
 
@@ -58,6 +60,25 @@ func TestEveryCallEnds(t *testing.T) {
 		}
 		if a.printKind != 0 && (a.printKind < 2 || a.printKind > 4) {
 			t.Errorf("P1: Print(%.60q) tells the kind %d", s, a.printKind)
+		}
+		if a.queryKind != 0 && (a.queryKind < 2 || a.queryKind > 9) {
+			t.Errorf("P1: Query(%.60q) tells the kind %d", s, a.queryKind)
+		}
+		if a.printKind != 0 && (a.queryKind != a.printKind || a.queryAt != a.printAt) {
+			t.Errorf("P1: Query(%.60q) tells the kind %d at %d, Print %d at %d", s, a.queryKind, a.queryAt, a.printKind, a.printAt)
+		}
+	}
+}
+
+// A query that was refused, or answered, changes nothing for the next one.
+func TestQueriesOneBehindTheOther(t *testing.T) {
+	queries := []string{"select id from town", "select nobody from town", "select -name from town", "select # from town", "select count(*) from person group by town"}
+	for _, first := range queries {
+		for _, second := range queries {
+			_, _, alone, _ := plain.Run(towns, second, nil)
+			if _, behind := plain.Two(towns, first, second); behind != alone {
+				t.Errorf("P1: Query(%q) tells the kind %d, behind %q %d", second, alone, first, behind)
+			}
 		}
 	}
 }

@@ -1,0 +1,78 @@
+// Package plan has what a query is once it is checked: functions of the row, or group, at hand, that know places and no names.
+package plan
+
+import (
+	"bags/api"
+	"bags/tables"
+)
+
+// Frame is the row, or the group, of which something is worked out.
+type Frame struct {
+	Row    []api.Value // the values of all sources side by side; of a group, those of one of its rows
+	Made   []api.Value // of a group: what Selection.Made says, worked out
+	Around *Frame      // that of the query around; nil: none is
+	Runner Runner
+}
+
+// Runner answers a query within a condition, for the frame of which the condition is looked at.
+type Runner interface {
+	Answer(q Query, around *Frame) ([][]api.Value, api.Errno)
+}
+
+// Part works something out: what it is, or the least error that it met.
+type Part[T any] func(f *Frame) (T, api.Errno)
+
+// Expr works out a value.
+type Expr = Part[api.Value]
+
+// Cond works out how true something is.
+type Cond = Part[Truth]
+
+// Query is a *Selection or a *Joined.
+type Query interface{ isQuery() }
+
+type query struct{}
+
+func (query) isQuery() {}
+
+// Selection is a selection.
+type Selection struct {
+	query
+	Distinct bool
+	Sources  []*tables.Table
+	Where    Cond
+	Groups   bool        // rows are put together by Keys; without these all are one group
+	Keys     []int       // where in a row the columns behind group by stand
+	Made     []Aggregate // what is worked out of each group ahead of Having and Items
+	Having   Cond
+	Items    []Expr
+}
+
+// Aggregate is a count, sum, min or max of what Of is, for the rows of a group.
+type Aggregate struct {
+	Name string
+	Of   Expr
+}
+
+// Joined is two queries put together: the sign says how, with all behind it or not.
+type Joined struct {
+	query
+	Left  Query
+	Sign  string
+	Right Query
+}
+
+// Least tells the lesser of two errors, OK being none.
+func Least(a, b api.Errno) api.Errno {
+	if a == api.OK || b != api.OK && b < a {
+		return b
+	}
+	return a
+}
+
+// both works out two parts, the second whatever the first met: all is looked at always (P9).
+func both[T any](f *Frame, left, right Part[T]) (T, T, api.Errno) {
+	l, met := left(f)
+	r, also := right(f)
+	return l, r, Least(met, also)
+}
