@@ -2,6 +2,7 @@
 package check
 
 import (
+	"cmp"
 	"slices"
 
 	"bags/api"
@@ -20,14 +21,18 @@ type checker struct {
 	clash  bool // something does not go together: told at the end, as what is named wrongly comes first (P1)
 }
 
-// Query checks a query over these tables.
-func Query(list map[string]*tables.Table, q tree.Query) plan.Query {
+// Query checks a query over these tables, and tells its columns' names (P14).
+func Query(list map[string]*tables.Table, q tree.Query) (plan.Query, []string) {
 	c := &checker{tables: list}
-	checked, _ := c.query(q, nil)
+	checked, columns := c.query(q, nil)
 	if c.clash {
 		fault.Throw(api.ErrType, 0)
 	}
-	return checked
+	var names []string
+	for _, column := range columns {
+		names = append(names, column.Name)
+	}
+	return checked, names
 }
 
 // must throws a fault unless what is named is there, and just once.
@@ -46,34 +51,34 @@ func (c *checker) together(a, b tables.Type) tables.Type {
 	return a
 }
 
-// sideBySide tells the types of columns that must be as many as each other, each two of one type.
-func (c *checker) sideBySide(left, right []tables.Type) []tables.Type {
+// sideBySide tells the columns of two queries that must have as many as each other, each two of one type: the names are the left's (P12).
+func (c *checker) sideBySide(left, right []tables.Column) []tables.Column {
 	if len(left) != len(right) {
 		c.clash = true
 		return left
 	}
-	types := make([]tables.Type, len(left))
+	columns := make([]tables.Column, len(left))
 	for i := range left {
-		types[i] = c.together(left[i], right[i])
+		columns[i] = tables.Column{Name: left[i].Name, Type: c.together(left[i].Type, right[i].Type)}
 	}
-	return types
+	return columns
 }
 
-// query checks a query that stands at a place of the one around it (nil: none is), and tells its columns' types.
-func (c *checker) query(q tree.Query, around *place) (plan.Query, []tables.Type) {
+// query checks a query that stands within another (nil: in none), and tells its columns.
+func (c *checker) query(q tree.Query, in *within) (plan.Query, []tables.Column) {
 	switch q := q.(type) {
 	case tree.Joined:
-		left, leftTypes := c.query(q.Left, around)
-		right, rightTypes := c.query(q.Right, around)
-		return &plan.Joined{Left: left, Sign: q.Sign, Right: right}, c.sideBySide(leftTypes, rightTypes)
+		left, leftColumns := c.query(q.Left, in)
+		right, rightColumns := c.query(q.Right, in)
+		return &plan.Joined{Left: left, Sign: q.Sign, Right: right}, c.sideBySide(leftColumns, rightColumns)
 	case tree.Select:
-		return c.selection(q, around)
+		return c.selection(q, in)
 	}
 	panic("a query of no kind")
 }
 
-func (c *checker) selection(s tree.Select, around *place) (plan.Query, []tables.Type) {
-	rows := &place{sources: c.sources(s.Sources), around: around}
+func (c *checker) selection(s tree.Select, in *within) (plan.Query, []tables.Column) {
+	rows := &place{sources: c.sources(s.Sources), in: in}
 	result := &plan.Selection{Distinct: s.Distinct, Where: c.cond(s.Where, rows), Keys: rows.keys(s.Group)}
 	for _, source := range rows.sources {
 		result.Sources = append(result.Sources, source.table)
@@ -85,27 +90,36 @@ func (c *checker) selection(s tree.Select, around *place) (plan.Query, []tables.
 		at = rows.grouped(result.Keys)
 	}
 	result.Having = c.cond(s.Having, at)
-	items, types := c.items(s.Items, at)
+	items, columns := c.items(s.Items, at)
 	result.Items = items
 	if result.Groups {
 		result.Made = at.group.made
 	}
-	return result, types
+	return result, columns
 }
 
 func makesGroups(s tree.Select) bool {
 	return len(s.Group) > 0 || slices.ContainsFunc(s.Items, func(i tree.Item) bool { return hasAggregate(i.Expr) })
 }
 
-func (c *checker) items(list []tree.Item, at *place) ([]plan.Expr, []tables.Type) {
+func (c *checker) items(list []tree.Item, at *place) ([]plan.Expr, []tables.Column) {
 	if len(list) == 0 {
 		return at.all()
 	}
 	var exprs []plan.Expr
-	var types []tables.Type
+	var columns []tables.Column
 	for _, item := range list {
 		e, t := c.expr(item.Expr, at)
-		exprs, types = append(exprs, e), append(types, t)
+		exprs, columns = append(exprs, e), append(columns, tables.Column{Name: shownAs(item), Type: t})
 	}
-	return exprs, types
+	return exprs, columns
+}
+
+// shownAs is the name of the column that an item makes.
+func shownAs(item tree.Item) string {
+	name := "?"
+	if column, is := item.Expr.(tree.Column); is {
+		name = column.Name
+	}
+	return cmp.Or(item.As, name)
 }

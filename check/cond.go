@@ -21,7 +21,7 @@ func (c *checker) cond(part tree.Cond, at *place) plan.Cond {
 		of, _ := c.expr(part.Left, at)
 		return negatedIf(part.Not, plan.IsNull(of))
 	case tree.Exists:
-		q, _ := c.query(part.Query, at)
+		q, _ := c.within(part.Query, at)
 		return plan.Exists(q)
 	case tree.In:
 		return negatedIf(part.Not, c.versus(part.Left, "=", "any", part.Query, at))
@@ -46,9 +46,20 @@ func (c *checker) compare(part tree.Compare, at *place) plan.Cond {
 }
 
 // versus checks an expression and the query that it is held against, which must have one column, of its type.
-func (c *checker) versus(left tree.Expr, sign, which string, within tree.Query, at *place) plan.Cond {
+func (c *checker) versus(left tree.Expr, sign, which string, q tree.Query, at *place) plan.Cond {
 	made, kind := c.expr(left, at)
-	q, types := c.query(within, at)
-	c.sideBySide([]tables.Type{kind}, types)
-	return plan.Versus(made, sign, which, q)
+	asked, columns := c.within(q, at)
+	c.sideBySide([]tables.Column{{Type: kind}}, columns)
+	return plan.Versus(made, sign, which, asked)
+}
+
+// within checks a query within a condition, and tells its columns.
+func (c *checker) within(q tree.Query, at *place) (*plan.Within, []tables.Column) {
+	in := &within{at: at}
+	checked, columns := c.query(q, in)
+	made := &plan.Within{Query: checked}
+	for _, n := range in.needs {
+		made.Needs = append(made.Needs, plan.Column(n.out, n.at))
+	}
+	return made, columns
 }

@@ -13,9 +13,18 @@ import (
 // place is where in a query a part stands: what the part may name hangs on that.
 type place struct {
 	sources []source
-	around  *place // where the query stands in the one around it; nil: none is
-	group   *group // nil: a row is at hand, not a group
+	in      *within // nil: the query stands within none
+	group   *group  // nil: a row is at hand, not a group
 }
+
+// within is where a query stands in the one around it, and the columns from there on outwards that it names.
+type within struct {
+	at    *place
+	needs []need
+}
+
+// need is a column, and how many queries further out it is.
+type need struct{ out, at int }
 
 // group is what may be named of a group.
 type group struct {
@@ -57,16 +66,15 @@ func (s source) column(i int) column {
 }
 
 // all is what * selects.
-func (p *place) all() ([]plan.Expr, []tables.Type) {
+func (p *place) all() ([]plan.Expr, []tables.Column) {
 	var exprs []plan.Expr
-	var types []tables.Type
+	var columns []tables.Column
 	for _, s := range p.sources {
-		for i := range s.table.Columns {
-			found := s.column(i)
-			exprs, types = append(exprs, plan.Column(0, found.at)), append(types, found.kind)
+		for i, column := range s.table.Columns {
+			exprs, columns = append(exprs, plan.Column(0, s.column(i).at)), append(columns, column)
 		}
 	}
-	return exprs, types
+	return exprs, columns
 }
 
 // keys finds the columns behind group by, which are of the same from: no query around is asked.
@@ -82,19 +90,28 @@ func (p *place) keys(list []tree.Column) []int {
 
 // grouped is the place of items and having where the rows of this one are put together.
 func (p *place) grouped(keys []int) *place {
-	return &place{sources: p.sources, around: p.around, group: &group{keys: keys, rows: p}}
+	return &place{sources: p.sources, in: p.in, group: &group{keys: keys, rows: p}}
 }
 
 // look finds the column that a name means, and how many queries further out it is.
 func (p *place) look(name tree.Column) (int, column) {
-	must(p != nil)
 	list := p.named(name)
 	if len(list) == 0 {
-		out, found := p.around.look(name)
+		out, found := p.in.look(name)
 		return out + 1, found
 	}
 	must(len(list) == 1 && p.shows(list[0]))
 	return 0, list[0]
+}
+
+// look finds a column of the queries around, and notes that it is needed.
+func (w *within) look(name tree.Column) (int, column) {
+	must(w != nil)
+	out, found := w.at.look(name)
+	if n := (need{out, found.at}); !slices.Contains(w.needs, n) {
+		w.needs = append(w.needs, n)
+	}
+	return out, found
 }
 
 // named lists the columns of this query's sources that a name fits.

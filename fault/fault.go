@@ -21,3 +21,12 @@ func Catch[T any](other api.Errno, work func() T) (answer T, err error) {
 	}()
 	return work(), nil
 }
+
+// Again throws the first of these faults that is one: they were caught where they could not go on.
+func Again(faults ...error) {
+	for _, err := range faults {
+		if err != nil {
+			panic(err)
+		}
+	}
+}

@@ -41,3 +41,28 @@ func TestCatchLetsNoPanicOut(t *testing.T) {
 		}
 	}
 }
+
+func TestAgain(t *testing.T) {
+	_, first := Catch(api.ErrData, func() int { panic("some other") })
+	_, second := Catch(api.ErrData, func() int {
+		Throw(api.ErrLex, 12)
+		return 0
+	})
+	for _, c := range []struct {
+		list []error
+		want error
+	}{
+		{nil, nil},
+		{[]error{nil, nil}, nil},
+		{[]error{nil, second, first}, second},
+		{[]error{first, second}, first},
+	} {
+		_, err := Catch(api.ErrSyntax, func() int {
+			Again(c.list...)
+			return 0
+		})
+		if err != c.want {
+			t.Errorf("of %v the fault %v is thrown again, want %v", c.list, err, c.want)
+		}
+	}
+}

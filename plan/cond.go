@@ -1,9 +1,8 @@
 package plan
 
 import (
-	"cmp"
-
 	"bags/api"
+	"bags/order"
 )
 
 // Truth is how true a condition is, in the order of and and or.
@@ -57,30 +56,29 @@ func Compare(sign string, left, right Expr) Cond {
 func IsNull(of Expr) Cond {
 	return func(f *Frame) (Truth, api.Errno) {
 		v, met := of(f)
-		_, is := v.(api.Null)
-		return truth(is), met
+		return truth(isNull(v)), met
 	}
 }
 
 // Exists asks if a query has rows.
-func Exists(q Query) Cond {
+func Exists(w *Within) Cond {
 	return func(f *Frame) (Truth, api.Errno) {
-		rows, met := f.Runner.Answer(q, f)
-		return truth(len(rows) > 0), met
+		rows, met := f.Runner.Answer(w, f)
+		return truth(!rows.Empty()), met
 	}
 }
 
 // Versus is a comparison of an expression with any or all rows of a query, which has one column.
-func Versus(left Expr, sign, which string, q Query) Cond {
+func Versus(left Expr, sign, which string, w *Within) Cond {
 	judge, join, none := judged(sign), greater, False
 	if which == "all" {
 		join, none = lesser, True
 	}
 	return func(f *Frame) (Truth, api.Errno) {
 		v, met := left(f)
-		rows, also := f.Runner.Answer(q, f)
+		rows, also := f.Runner.Answer(w, f)
 		t := none
-		for _, row := range rows {
+		for row := range rows.All() {
 			t = join(t, judge(v, row[0]))
 		}
 		return t, Least(met, also)
@@ -98,13 +96,14 @@ func truth(holds bool) Truth {
 func judged(sign string) func(a, b api.Value) Truth {
 	fits := fitting(sign)
 	return func(a, b api.Value) Truth {
-		order, known := compared(a, b)
-		if !known {
+		if isNull(a) || isNull(b) {
 			return Unknown
 		}
-		return truth(fits(order))
+		return truth(fits(order.Values(a, b)))
 	}
 }
+
+func isNull(v api.Value) bool { return v == api.Null{} }
 
 // fitting tells which orders (below 0, 0, above 0) a sign asks for.
 func fitting(sign string) func(order int) bool {
@@ -121,17 +120,4 @@ func fitting(sign string) func(order int) bool {
 		return func(order int) bool { return order > 0 }
 	}
 	return func(order int) bool { return order >= 0 }
-}
-
-// compared tells the order of two values of one type; it is not known if one is null.
-func compared(a, b api.Value) (int, bool) {
-	switch a := a.(type) {
-	case api.Int:
-		b, known := b.(api.Int)
-		return cmp.Compare(a, b), known
-	case api.Text:
-		b, known := b.(api.Text)
-		return cmp.Compare(a, b), known
-	}
-	return 0, false
 }

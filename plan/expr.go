@@ -26,6 +26,18 @@ func Made(place int) Expr {
 	return func(f *Frame) (api.Value, api.Errno) { return f.Made[place], api.OK }
 }
 
+// Row is the values of all items.
+func Row(items []Expr) Part[[]api.Value] {
+	return func(f *Frame) ([]api.Value, api.Errno) {
+		row, met := make([]api.Value, len(items)), api.OK
+		for i, item := range items {
+			v, also := item(f)
+			row[i], met = v, Least(met, also)
+		}
+		return row, met
+	}
+}
+
 // Negated is the negation of a number.
 func Negated(of Expr) Expr {
 	return Arith("-", Literal(api.Int(0)), of)

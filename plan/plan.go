@@ -3,20 +3,35 @@ package plan
 
 import (
 	"bags/api"
+	"bags/bag"
 	"bags/tables"
 )
 
-// Frame is the row, or the group, of which something is worked out.
+// Bag is a bag of rows.
+type Bag = bag.Bag[api.Value]
+
+// Entry is a row, or a group, of a selection.
+type Entry struct {
+	Row  []api.Value // the values of all sources side by side; of a group, those of one of its rows
+	Made []api.Value // of a group: what Selection.Made says, worked out
+}
+
+// Frame is the row, or the group, of which something is worked out, and what it is worked out with.
 type Frame struct {
-	Row    []api.Value // the values of all sources side by side; of a group, those of one of its rows
-	Made   []api.Value // of a group: what Selection.Made says, worked out
-	Around *Frame      // that of the query around; nil: none is
+	Entry
+	Around *Frame // that of the query around; nil: none is
 	Runner Runner
 }
 
 // Runner answers a query within a condition, for the frame of which the condition is looked at.
 type Runner interface {
-	Answer(q Query, around *Frame) ([][]api.Value, api.Errno)
+	Answer(w *Within, around *Frame) (*Bag, api.Errno)
+}
+
+// Within is a query within a condition.
+type Within struct {
+	Query Query
+	Needs []Expr // the columns of the queries around that it names: of the frame around, where its answer hangs on them alone
 }
 
 // Part works something out: what it is, or the least error that it met.
@@ -62,12 +77,15 @@ type Joined struct {
 	Right Query
 }
 
-// Least tells the lesser of two errors, OK being none.
-func Least(a, b api.Errno) api.Errno {
-	if a == api.OK || b != api.OK && b < a {
-		return b
+// Least tells the least of some errors, OK being none.
+func Least(list ...api.Errno) api.Errno {
+	least := api.OK
+	for _, met := range list {
+		if least == api.OK || met != api.OK && met < least {
+			least = met
+		}
 	}
-	return a
+	return least
 }
 
 // both works out two parts, the second whatever the first met: all is looked at always (P9).

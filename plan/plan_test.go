@@ -3,9 +3,11 @@ package plan
 import (
 	"math"
 	"math/big"
+	"slices"
 	"testing"
 
 	"bags/api"
+	"bags/bag"
 )
 
 // asked works out an expression that needs no row.
@@ -85,6 +87,20 @@ func TestLeast(t *testing.T) {
 	}
 }
 
+func TestRow(t *testing.T) {
+	overflow, divide := Negated(Literal(api.Int(math.MinInt64))), Arith("/", Literal(api.Int(1)), Literal(api.Int(0)))
+	f := &Frame{Entry: Entry{Row: []api.Value{api.Int(1), api.Text("x")}, Made: []api.Value{api.Int(3)}}, Around: &Frame{Entry: Entry{Row: []api.Value{api.Null{}}}}}
+	row, met := Row([]Expr{Column(0, 1), Made(0), Column(1, 0), Column(0, 0)})(f)
+	if want := []api.Value{api.Text("x"), api.Int(3), api.Null{}, api.Int(1)}; !slices.Equal(row, want) || met != api.OK {
+		t.Errorf("the row is %v, %d, want %v", row, met, want)
+	}
+	for _, items := range [][]Expr{{divide, overflow}, {overflow, divide}, {overflow, Column(0, 0)}} {
+		if _, met := Row(items)(f); met != api.ErrOverflow {
+			t.Errorf("P10: of all items' errors %d is told", met)
+		}
+	}
+}
+
 // known is a condition of that truth.
 func known(truth Truth) Cond {
 	return func(*Frame) (Truth, api.Errno) { return truth, api.OK }
@@ -145,7 +161,7 @@ type fixed struct {
 }
 
 // Answer answers a query.
-func (f fixed) Answer(Query, *Frame) ([][]api.Value, api.Errno) { return f.rows, f.met }
+func (f fixed) Answer(*Within, *Frame) (*Bag, api.Errno) { return bag.New(f.rows...), f.met }
 
 func TestVersus(t *testing.T) {
 	one, two, null := []api.Value{api.Int(1)}, []api.Value{api.Int(2)}, []api.Value{api.Null{}}

@@ -43,6 +43,8 @@ func Read(query string) []Word {
 	if len(query) > api.MaxQuery {
 		fault.Throw(api.ErrLex, api.MaxQuery)
 	}
+	// Names are pieces of the text that is read, and a result's columns have them: the caller's must not be kept for their sake.
+	query = strings.Clone(query)
 	var list []Word
 	keywords := Keywords()
 	for at := gap(query); at < len(query); at += gap(query[at:]) {

@@ -1,0 +1,168 @@
+package run
+
+import (
+	"errors"
+	"sync"
+	"testing"
+
+	"bags/api"
+	"bags/bag"
+	"bags/fault"
+	"bags/plan"
+	"bags/tables"
+)
+
+// numbers is entries of one value each, from 0.
+func numbers(n int) []plan.Entry {
+	list := make([]plan.Entry, n)
+	for i := range list {
+		list[i].Row = []api.Value{api.Int(i)}
+	}
+	return list
+}
+
+func TestEach(t *testing.T) {
+	for _, n := range []int{0, 1, share - 1, share, share + 1, 2 * share, 2*share + 1, 1728} {
+		for _, around := range []*plan.Frame{nil, {}} {
+			values, met := each(plan.Frame{Around: around}, numbers(n), plan.Column(0, 0))
+			if len(values) != n || met != api.OK {
+				t.Fatalf("of %d entries come %d values, %d", n, len(values), met)
+			}
+			for i, v := range values {
+				if v != api.Int(i) {
+					t.Fatalf("of %d entries the one at %d is %v", n, i, v)
+				}
+			}
+		}
+	}
+}
+
+// Whichever entries meet errors, all of them count.
+func TestLeastOfAllErrors(t *testing.T) {
+	const n = 5 * share
+	for at := range n {
+		part := func(f *plan.Frame) (int, api.Errno) {
+			switch f.Row[0] {
+			case api.Int(at):
+				return 0, api.ErrOverflow
+			case api.Int(n - 1 - at):
+				return 0, api.ErrDivide
+			}
+			return 0, api.OK
+		}
+		if _, met := each(plan.Frame{}, numbers(n), part); met != api.ErrOverflow {
+			t.Errorf("P10: with the errors at %d and %d the error %d is told", at, n-1-at, met)
+		}
+	}
+}
+
+func TestManyGoroutinesLook(t *testing.T) {
+	// Each of the first two waits for the other: one goroutine alone would not end.
+	var both sync.WaitGroup
+	both.Add(2)
+	part := func(f *plan.Frame) (int, api.Errno) {
+		if f.Row[0] == api.Int(0) || f.Row[0] == api.Int(share) {
+			both.Done()
+			both.Wait()
+		}
+		return 0, api.OK
+	}
+	each(plan.Frame{}, numbers(2*share), part)
+}
+
+func TestPanicOfAGoroutine(t *testing.T) {
+	_, err := fault.Catch(api.ErrData, func() int {
+		spread(3*share, func(from, to int) {
+			if from == share {
+				panic("no fault")
+			}
+		})
+		return 0
+	})
+	if !errors.Is(err, api.ErrType) {
+		t.Errorf("P1: a panic of a goroutine is told as %v", err)
+	}
+}
+
+func TestSumIsExact(t *testing.T) {
+	const high, low = api.Int(1<<63 - 1), api.Int(-1 << 63)
+	for _, c := range []struct {
+		values []api.Value
+		want   api.Value
+		met    api.Errno
+	}{
+		{[]api.Value{high, high, low, low, api.Int(2)}, api.Int(0), api.OK},
+		{[]api.Value{high, api.Int(1), api.Int(-1)}, high, api.OK},
+		{[]api.Value{high, api.Int(1)}, api.Null{}, api.ErrOverflow},
+		{[]api.Value{low, api.Int(-1)}, api.Null{}, api.ErrOverflow},
+		{[]api.Value{low}, low, api.OK},
+		{[]api.Value{high, high, api.Int(2)}, api.Null{}, api.ErrOverflow}, // 2^64: 0, were it of 64 bits
+	} {
+		if got, met := sum(c.values); got != c.want || met != c.met {
+			t.Errorf("P11: the sum of %v is %v, %d, want %v, %d", c.values, got, met, c.want, c.met)
+		}
+	}
+}
+
+// asked counts how often the rows of a query within are gone through.
+func asked(times *int, needs ...plan.Expr) *plan.Within {
+	count := func(*plan.Frame) (plan.Truth, api.Errno) {
+		*times++
+		return plan.True, api.OK
+	}
+	return &plan.Within{Query: &plan.Selection{Sources: one(), Where: count}, Needs: needs}
+}
+
+func TestAnsweredOnceForTheSameValues(t *testing.T) {
+	r := &runner{known: map[*plan.Within]*memory{}}
+	var alone, hanging int
+	a, h := asked(&alone), asked(&hanging, plan.Column(0, 0))
+	for i := range 30 {
+		f := &plan.Frame{Entry: plan.Entry{Row: []api.Value{api.Int(i % 3)}}}
+		for _, w := range []*plan.Within{a, h} {
+			if rows, met := r.Answer(w, f); rows.Times([]api.Value{}) != 1 || met != api.OK {
+				t.Errorf("P13: the query within answers %v, %d", rows, met)
+			}
+		}
+	}
+	if alone != 1 || hanging != 3 {
+		t.Errorf("the queries within are answered %d and %d times, want 1 and 3", alone, hanging)
+	}
+}
+
+func TestAnswersBeyondThoseKept(t *testing.T) {
+	r := &runner{known: map[*plan.Within]*memory{}}
+	w := &plan.Within{Query: &plan.Selection{Sources: one(), Where: plan.Always(), Items: []plan.Expr{plan.Column(1, 0)}}, Needs: []plan.Expr{plan.Column(0, 0)}}
+	for range 2 {
+		for i := range mostKept + 10 {
+			row := []api.Value{api.Int(i)}
+			rows, met := r.Answer(w, &plan.Frame{Entry: plan.Entry{Row: row}})
+			if rows.Times(row) != 1 || met != api.OK {
+				t.Fatalf("P13: for %d the query within answers %v, %d", i, rows, met)
+			}
+		}
+	}
+	if kept := len(r.known[w].answers); kept != mostKept {
+		t.Errorf("%d answers are kept", kept)
+	}
+}
+
+func TestNoRowsWithAnError(t *testing.T) {
+	overflow := func(*plan.Frame) (plan.Truth, api.Errno) { return plan.True, api.ErrOverflow }
+	wrong := &plan.Selection{Sources: one(), Where: overflow}
+	right := &plan.Selection{Sources: one(), Where: plan.Always()}
+	for _, q := range []plan.Query{wrong, &plan.Joined{Left: wrong, Sign: "union", Right: right}, &plan.Joined{Left: right, Sign: "union all", Right: wrong}} {
+		if rows, met := new(runner).query(q, nil); !rows.Empty() || met != api.ErrOverflow {
+			t.Errorf("P12: with an error come %v, %d", rows, met)
+		}
+		_, err := fault.Catch(api.ErrData, func() *bag.Bag[api.Value] { return Query(q) })
+		if !errors.Is(err, api.ErrOverflow) {
+			t.Errorf("P10: the error is told as %v", err)
+		}
+	}
+}
+
+// one is a source of one row.
+func one() []*tables.Table {
+	return []*tables.Table{{Rows: [][]api.Value{{api.Int(1)}}}}
+}
