@@ -5,6 +5,7 @@ import (
 	"slices"
 	"strings"
 	"testing"
+	"unsafe"
 
 	"bags/api"
 	"bags/bags"
@@ -176,4 +177,35 @@ func TestNoRows(t *testing.T) {
 	for row := range r.Rows() {
 		t.Errorf("P14: a row of none: %v", row)
 	}
+}
+
+// What comes out must not keep the text that was handed in: neither the names that stand in it, nor its texts.
+func TestAnswersAreNewMemory(t *testing.T) {
+	data, query := strings.Clone(towns), strings.Clone("select 'text' as first, name as second, id from town")
+	d, err := bags.Open(data)
+	if err != nil {
+		t.Fatal(err)
+	}
+	r, err := d.Query(query)
+	if err != nil {
+		t.Fatal(err)
+	}
+	texts := r.Columns()
+	for row := range r.Rows() {
+		for _, v := range row {
+			if text, ok := v.(api.Text); ok {
+				texts = append(texts, string(text))
+			}
+		}
+	}
+	for _, text := range texts {
+		if isPieceOf(data, text) || isPieceOf(query, text) {
+			t.Errorf("%q is a piece of a text that was handed in", text)
+		}
+	}
+}
+
+func isPieceOf(whole, piece string) bool {
+	at, first := uintptr(unsafe.Pointer(unsafe.StringData(piece))), uintptr(unsafe.Pointer(unsafe.StringData(whole)))
+	return first <= at && at < first+uintptr(len(whole))
 }

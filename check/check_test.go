@@ -6,7 +6,6 @@ import (
 	"testing"
 
 	"bags/api"
-	"bags/bag"
 	"bags/parse"
 	"bags/plan"
 	"bags/tables"
@@ -18,7 +17,7 @@ const towns = "table town id int name text\nrow 1 'Oslo'\nrow 2 'Rome'\nrow 3 nu
 type noting struct{ needs []string }
 
 // Answer notes what a query needs; no rows come out.
-func (n *noting) Answer(w *plan.Within, around *plan.Frame) (*plan.Bag, api.Errno) {
+func (n *noting) Answer(w *plan.Within, around *plan.Frame) (plan.Answer, api.Errno) {
 	row, _ := plan.Row(w.Needs)(around)
 	var values []string
 	for _, v := range row {
@@ -26,7 +25,7 @@ func (n *noting) Answer(w *plan.Within, around *plan.Frame) (*plan.Bag, api.Errn
 	}
 	n.needs = append(n.needs, strings.Join(values, ","))
 	n.look(w.Query, around)
-	return bag.New[api.Value](), api.OK
+	return plan.Answer{}, api.OK
 }
 
 // look looks at the conditions of a query for the first rows of its sources.

@@ -63,8 +63,8 @@ func IsNull(of Expr) Cond {
 // Exists asks if a query has rows.
 func Exists(w *Within) Cond {
 	return func(f *Frame) (Truth, api.Errno) {
-		rows, met := f.Runner.Answer(w, f)
-		return truth(!rows.Empty()), met
+		a, met := f.Runner.Answer(w, f)
+		return truth(a.Some), met
 	}
 }
 
@@ -76,10 +76,10 @@ func Versus(left Expr, sign, which string, w *Within) Cond {
 	}
 	return func(f *Frame) (Truth, api.Errno) {
 		v, met := left(f)
-		rows, also := f.Runner.Answer(w, f)
+		a, also := f.Runner.Answer(w, f)
 		t := none
-		for row := range rows.All() {
-			t = join(t, judge(v, row[0]))
+		for _, other := range a.Values {
+			t = join(t, judge(v, other))
 		}
 		return t, Least(met, also)
 	}

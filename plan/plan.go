@@ -3,12 +3,8 @@ package plan
 
 import (
 	"bags/api"
-	"bags/bag"
 	"bags/tables"
 )
-
-// Bag is a bag of rows.
-type Bag = bag.Bag[api.Value]
 
 // Entry is a row, or a group, of a selection.
 type Entry struct {
@@ -25,13 +21,19 @@ type Frame struct {
 
 // Runner answers a query within a condition, for the frame of which the condition is looked at.
 type Runner interface {
-	Answer(w *Within, around *Frame) (*Bag, api.Errno)
+	Answer(w *Within, around *Frame) (Answer, api.Errno)
+}
+
+// Answer is what a condition asks of a query's rows.
+type Answer struct {
+	Some   bool        // a row comes out
+	Values []api.Value // of a query of one column: its values, each once
 }
 
 // Within is a query within a condition.
 type Within struct {
 	Query Query
-	Needs []Expr // the columns of the queries around that it names: of the frame around, where its answer hangs on them alone
+	Needs []Expr // the columns of the queries around that it names, of the frame around: its answer hangs on these values alone
 }
 
 // Part works something out: what it is, or the least error that it met.

@@ -7,7 +7,6 @@ import (
 	"testing"
 
 	"bags/api"
-	"bags/bag"
 )
 
 // asked works out an expression that needs no row.
@@ -154,36 +153,38 @@ func TestCompare(t *testing.T) {
 	}
 }
 
-// fixed answers every query with the same rows.
+// fixed answers every query with the same values.
 type fixed struct {
-	rows [][]api.Value
-	met  api.Errno
+	values []api.Value
+	met    api.Errno
 }
 
 // Answer answers a query.
-func (f fixed) Answer(*Within, *Frame) (*Bag, api.Errno) { return bag.New(f.rows...), f.met }
+func (f fixed) Answer(*Within, *Frame) (Answer, api.Errno) {
+	return Answer{Some: len(f.values) > 0, Values: f.values}, f.met
+}
 
 func TestVersus(t *testing.T) {
-	one, two, null := []api.Value{api.Int(1)}, []api.Value{api.Int(2)}, []api.Value{api.Null{}}
+	one, two, null := api.Int(1), api.Int(2), api.Null{}
 	for _, c := range []struct {
-		rows     [][]api.Value
+		values   []api.Value
 		any, all Truth // 1 = any, 1 = all
 	}{
 		{nil, False, True},
-		{[][]api.Value{one}, True, True},
-		{[][]api.Value{two}, False, False},
-		{[][]api.Value{null}, Unknown, Unknown},
-		{[][]api.Value{two, one}, True, False},
-		{[][]api.Value{null, one}, True, Unknown},
-		{[][]api.Value{two, null}, Unknown, False},
-		{[][]api.Value{one, null, two}, True, False},
+		{[]api.Value{one}, True, True},
+		{[]api.Value{two}, False, False},
+		{[]api.Value{null}, Unknown, Unknown},
+		{[]api.Value{two, one}, True, False},
+		{[]api.Value{null, one}, True, Unknown},
+		{[]api.Value{two, null}, Unknown, False},
+		{[]api.Value{one, null, two}, True, False},
 	} {
-		f := &Frame{Runner: fixed{rows: c.rows}}
-		some, _ := Versus(Literal(api.Int(1)), "=", "any", nil)(f)
-		all, _ := Versus(Literal(api.Int(1)), "=", "all", nil)(f)
+		f := &Frame{Runner: fixed{values: c.values}}
+		some, _ := Versus(Literal(one), "=", "any", nil)(f)
+		all, _ := Versus(Literal(one), "=", "all", nil)(f)
 		exists, _ := Exists(nil)(f)
-		if some != c.any || all != c.all || exists != truth(len(c.rows) > 0) {
-			t.Errorf("of %v: any %d, all %d, exists %d, want %d, %d", c.rows, some, all, exists, c.any, c.all)
+		if some != c.any || all != c.all || exists != truth(len(c.values) > 0) {
+			t.Errorf("of %v: any %d, all %d, exists %d, want %d, %d", c.values, some, all, exists, c.any, c.all)
 		}
 	}
 }

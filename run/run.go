@@ -8,10 +8,12 @@ import (
 	"bags/plan"
 )
 
+// Bag is a bag of rows.
+type Bag = bag.Bag[api.Value]
+
 // Query answers a query.
-func Query(q plan.Query) *plan.Bag {
-	r := &runner{known: map[*plan.Within]*memory{}}
-	rows, met := r.query(q, nil)
+func Query(q plan.Query) *Bag {
+	rows, met := newRunner().query(q, nil)
 	if met != api.OK {
 		fault.Throw(met, 0)
 	}
@@ -19,7 +21,7 @@ func Query(q plan.Query) *plan.Bag {
 }
 
 // query answers a query that stands within a condition of which the frame around is looked at (nil: within none). With an error no rows come out.
-func (r *runner) query(q plan.Query, around *plan.Frame) (*plan.Bag, api.Errno) {
+func (r *runner) query(q plan.Query, around *plan.Frame) (*Bag, api.Errno) {
 	switch q := q.(type) {
 	case *plan.Joined:
 		return r.joined(q, around)
@@ -30,7 +32,7 @@ func (r *runner) query(q plan.Query, around *plan.Frame) (*plan.Bag, api.Errno) 
 }
 
 // joined answers both queries, the second whatever the first met (P12).
-func (r *runner) joined(j *plan.Joined, around *plan.Frame) (*plan.Bag, api.Errno) {
+func (r *runner) joined(j *plan.Joined, around *plan.Frame) (*Bag, api.Errno) {
 	left, met := r.query(j.Left, around)
 	right, also := r.query(j.Right, around)
 	if met = plan.Least(met, also); met != api.OK {

@@ -2,6 +2,7 @@ package run
 
 import (
 	"errors"
+	"slices"
 	"sync"
 	"testing"
 
@@ -104,8 +105,8 @@ func TestSumIsExact(t *testing.T) {
 	}
 }
 
-// asked counts how often the rows of a query within are gone through.
-func asked(times *int, needs ...plan.Expr) *plan.Within {
+// counting is a query within that counts how often its rows are gone through.
+func counting(times *int, needs ...plan.Expr) *plan.Within {
 	count := func(*plan.Frame) (plan.Truth, api.Errno) {
 		*times++
 		return plan.True, api.OK
@@ -114,14 +115,14 @@ func asked(times *int, needs ...plan.Expr) *plan.Within {
 }
 
 func TestAnsweredOnceForTheSameValues(t *testing.T) {
-	r := &runner{known: map[*plan.Within]*memory{}}
+	r := newRunner()
 	var alone, hanging int
-	a, h := asked(&alone), asked(&hanging, plan.Column(0, 0))
+	a, h := counting(&alone), counting(&hanging, plan.Column(0, 0))
 	for i := range 30 {
 		f := &plan.Frame{Entry: plan.Entry{Row: []api.Value{api.Int(i % 3)}}}
 		for _, w := range []*plan.Within{a, h} {
-			if rows, met := r.Answer(w, f); rows.Times([]api.Value{}) != 1 || met != api.OK {
-				t.Errorf("P13: the query within answers %v, %d", rows, met)
+			if answer, met := r.Answer(w, f); !answer.Some || met != api.OK {
+				t.Errorf("P13: the query within answers %v, %d", answer, met)
 			}
 		}
 	}
@@ -130,20 +131,37 @@ func TestAnsweredOnceForTheSameValues(t *testing.T) {
 	}
 }
 
+// A query within whose answers are too many to be kept is answered all the same.
 func TestAnswersBeyondThoseKept(t *testing.T) {
-	r := &runner{known: map[*plan.Within]*memory{}}
+	r := newRunner()
 	w := &plan.Within{Query: &plan.Selection{Sources: one(), Where: plan.Always(), Items: []plan.Expr{plan.Column(1, 0)}}, Needs: []plan.Expr{plan.Column(0, 0)}}
 	for range 2 {
-		for i := range mostKept + 10 {
+		for i := range room / 2 {
 			row := []api.Value{api.Int(i)}
-			rows, met := r.Answer(w, &plan.Frame{Entry: plan.Entry{Row: row}})
-			if rows.Times(row) != 1 || met != api.OK {
-				t.Fatalf("P13: for %d the query within answers %v, %d", i, rows, met)
+			answer, met := r.Answer(w, &plan.Frame{Entry: plan.Entry{Row: row}})
+			if !slices.Equal(answer.Values, row) || !answer.Some || met != api.OK {
+				t.Fatalf("P13: for %d the query within answers %v, %d", i, answer, met)
 			}
 		}
 	}
-	if kept := len(r.known[w].answers); kept != mostKept {
+	if kept := len(r.known[w].answers); kept < room/4 || kept > room/3+1 {
 		t.Errorf("%d answers are kept", kept)
+	}
+}
+
+func TestWhatConditionsAsk(t *testing.T) {
+	one, two := []api.Value{api.Int(1)}, []api.Value{api.Int(2)}
+	for _, c := range []struct {
+		rows   [][]api.Value
+		values []api.Value
+	}{
+		{nil, nil},
+		{[][]api.Value{one, two, one}, []api.Value{api.Int(1), api.Int(2)}},
+		{[][]api.Value{{api.Int(1), api.Int(2)}}, nil},
+	} {
+		if a := asked(bag.New(c.rows...)); a.Some != (len(c.rows) > 0) || !slices.Equal(a.Values, c.values) {
+			t.Errorf("P13: of %v is asked %v, want %v", c.rows, a, c.values)
+		}
 	}
 }
 
@@ -152,10 +170,10 @@ func TestNoRowsWithAnError(t *testing.T) {
 	wrong := &plan.Selection{Sources: one(), Where: overflow}
 	right := &plan.Selection{Sources: one(), Where: plan.Always()}
 	for _, q := range []plan.Query{wrong, &plan.Joined{Left: wrong, Sign: "union", Right: right}, &plan.Joined{Left: right, Sign: "union all", Right: wrong}} {
-		if rows, met := new(runner).query(q, nil); !rows.Empty() || met != api.ErrOverflow {
+		if rows, met := newRunner().query(q, nil); !rows.Empty() || met != api.ErrOverflow {
 			t.Errorf("P12: with an error come %v, %d", rows, met)
 		}
-		_, err := fault.Catch(api.ErrData, func() *bag.Bag[api.Value] { return Query(q) })
+		_, err := fault.Catch(api.ErrData, func() *Bag { return Query(q) })
 		if !errors.Is(err, api.ErrOverflow) {
 			t.Errorf("P10: the error is told as %v", err)
 		}

@@ -10,7 +10,7 @@ import (
 )
 
 // selection answers a selection step by step: an error of one ends it ahead of the next (P10).
-func selection(s *plan.Selection, at plan.Frame) (*plan.Bag, api.Errno) {
+func selection(s *plan.Selection, at plan.Frame) (*Bag, api.Errno) {
 	left, met := kept(at, entries(s.Sources), s.Where)
 	if met == api.OK && s.Groups {
 		left, met = grouped(s, at, left)

@@ -5,8 +5,8 @@ import (
 	"iter"
 
 	"bags/api"
+	"bags/bag"
 	"bags/order"
-	"bags/plan"
 )
 
 // counted is a row, and how often it is there.
@@ -34,7 +34,7 @@ func (p *pile) Pop() any {
 }
 
 // ordered goes over the rows of a bag in order, over each as often as it is there.
-func ordered(rows *plan.Bag) iter.Seq[[]api.Value] {
+func ordered(rows *bag.Bag[api.Value]) iter.Seq[[]api.Value] {
 	return func(yield func([]api.Value) bool) {
 		p := &pile{}
 		for row, times := range rows.All() {

@@ -3,12 +3,12 @@ package tell
 
 import (
 	"bags/api"
+	"bags/bag"
 	"bags/fault"
-	"bags/plan"
 )
 
 // Rows tells the rows of a bag in order; a fault is thrown if there are more than may come out.
-func Rows(rows *plan.Bag, limits ...int) [][]api.Value {
+func Rows(rows *bag.Bag[api.Value], limits ...int) [][]api.Value {
 	out := make(chan []api.Value, limit(limits...))
 	for row := range ordered(rows) {
 		select {
