@@ -86,20 +86,7 @@ func TestExamples(t *testing.T) {
 		{"(select id from town) except (select 2 from town)", "id", "1; 3", api.OK},
 		{"select id from town where (id) in ((select 1 from town))", "id", "1", api.OK},
 	})
-}
-
-// Queries within queries within: columns two queries further out, and of a group around.
-func TestQueriesWithin(t *testing.T) {
-	tellAll(t, "P13", towns, []told{
-		{"select id from town where exists (select 1 from person where exists (select 1 from town as t where t.id = town.id + 1 and person.town = t.id))", "id", "1", api.OK},
-		{"select town from person group by town having exists (select 1 from town as t where id = town and exists (select 1 from person where town = t.id and age = 41))", "town", "1", api.OK},
-		{"select town from person group by town having count(*) > all (select id from town where id < town) and town = any (select max(town) from town)", "town", "1", api.OK},
-		{"select id from town where id < any (select count(*) + id from person where town = id group by age)", "id", "1; 2", api.OK},
-		{"select id from town where 1 = any (select x from none)", "id", "", api.OK},
-		{"select id from town where 1 / 0 in (select x from none)", "", "", api.ErrDivide},
-		{"select id from town where 1 not in (select 1 % 0 from person)", "", "", api.ErrDivide},
-		{"select id from town where 1 / 0 = all (select -age - 9223372036854775807 from person)", "", "", api.ErrOverflow},
-		{"select id from town where exists (select 1 / (id - 3) from person)", "", "", api.ErrDivide},
-		{"select id from town where id = 9 and exists (select 1 / (id - 3) from person)", "", "", api.ErrDivide},
-	})
+	if columns, rows, kind, at := plain.Run(towns, "select id # from town", nil); columns != nil || rows != nil || api.Errno(kind) != api.ErrLex || at != 10 {
+		t.Errorf("the examples: %q, %q, the kind %d at %d, want ErrLex at 10", columns, rows, kind, at)
+	}
 }

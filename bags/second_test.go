@@ -487,30 +487,110 @@ func otherTowns() []string {
 	}
 }
 
+// held holds what the program answers against what the second answers, and tells that; the query must be right, and not too much work.
+func (s second) held(t *testing.T, data string, q tree.Query) ([]string, api.Errno, bool) {
+	t.Helper()
+	text := q.Written()
+	if _, err := bags.Print(text); err != nil || wanted(q) != api.OK || s.work(q) > 5000 {
+		return nil, api.OK, false
+	}
+	columns, rows, kind, at := plain.Run(data, text, nil)
+	wantColumns, wantRows, want := s.told(q)
+	if api.Errno(kind) != want || at != 0 || !slices.Equal(columns, wantColumns) || !slices.Equal(rows, wantRows) {
+		t.Fatalf("P8 to P14: of the tables %q, %q tells %q, %q, the kind %d, want %q, %q, %d", data, text, columns, rows, kind, wantColumns, wantRows, want)
+	}
+	return wantRows, want, true
+}
+
 func TestAnsweredAsReadAnotherWay(t *testing.T) {
 	a := asker{rand.New(rand.NewPCG(8, 14))}
 	met := map[api.Errno]int{}
-	within := 0
-	for i, data := range otherTowns() {
+	for _, data := range otherTowns() {
 		s := second{tables.Read(data)}
 		for range 15000 {
-			q := a.query(a.IntN(4), nil, 0)
-			text := q.Written()
-			if _, err := bags.Print(text); err != nil || wanted(q) != api.OK || s.work(q) > 5000 {
-				continue
-			}
-			columns, rows, kind, at := plain.Run(data, text, nil)
-			wantColumns, wantRows, want := s.told(q)
-			if api.Errno(kind) != want || at != 0 || !slices.Equal(columns, wantColumns) || !slices.Equal(rows, wantRows) {
-				t.Fatalf("P8 to P14: of the tables %d, %q tells %q, %q, the kind %d, want %q, %q, %d", i, text, columns, rows, kind, wantColumns, wantRows, want)
-			}
-			met[want]++
-			if strings.Count(text, "select") > 1 {
-				within++
+			if _, want, fits := s.held(t, data, a.query(a.IntN(4), nil, 0)); fits {
+				met[want]++
 			}
 		}
 	}
-	if met[api.OK] < 10000 || met[api.ErrOverflow] < 500 || met[api.ErrDivide] < 500 || within < 3000 {
-		t.Errorf("the queries are too much of one kind: %v, %d with others within", met, within)
+	if met[api.OK] < 10000 || met[api.ErrOverflow] < 500 || met[api.ErrDivide] < 500 {
+		t.Errorf("the queries are too much of one kind: %v", met)
+	}
+}
+
+// around is a query with a condition of that form, of rows or of groups.
+func (a asker) around(form string) tree.Query {
+	s := tree.Select{Sources: []tree.Source{a.source(nil)}}
+	if a.chance(30) {
+		s.Sources = append(s.Sources, a.source(s.Sources))
+	}
+	own := ownColumns(s, 0)
+	m := exprMaker{a, own, false, own}
+	if a.chance(70) {
+		s.Where = m.within(form)
+	} else {
+		s.Group = []tree.Column{a.column(own, "int")}
+		m = exprMaker{a, meant(s.Group[0], own), true, own}
+		s.Having = m.within(form)
+	}
+	s.Items = []tree.Item{{Expr: m.expr("int", 0)}, {Expr: m.expr("text", 0)}}
+	return s
+}
+
+// within is a condition of that form, or its negation.
+func (m exprMaker) within(form string) tree.Cond {
+	kind := pick(m.asker, "int", "text")
+	left, asked := m.expr(kind, 1), tree.Within{Query: m.fitting(kind, form == "exists")}
+	var made tree.Cond
+	switch form {
+	case "exists":
+		made = tree.Exists{Within: asked}
+	case "in", "not in":
+		made = tree.In{Left: left, Not: form == "not in", Within: asked}
+	default:
+		made = tree.Versus{Left: left, Sign: pick(m.asker, "=", "<>", "<", "<=", ">", ">="), Which: form, Within: asked}
+	}
+	if m.chance(30) {
+		return tree.Not{Of: made}
+	}
+	return made
+}
+
+// fitting is a query that goes together with what is around it: of one column of the kind, or of any columns.
+func (m exprMaker) fitting(kind string, any bool) tree.Query {
+	for {
+		q := m.query(1+m.IntN(2), m.list, 1)
+		if !namesRight(q, m.list, 1) {
+			continue
+		}
+		types := typesOf(q, m.list, 1)
+		if any && !slices.Contains(types, "wrong") || len(types) == 1 && oneType(types[0], kind) == kind {
+			return q
+		}
+	}
+}
+
+func TestQueriesWithinAsReadAnotherWay(t *testing.T) {
+	a := asker{rand.New(rand.NewPCG(13, 4))}
+	for _, form := range []string{"exists", "any", "all", "in", "not in"} {
+		some, none, wrong := 0, 0, 0
+		for _, data := range otherTowns() {
+			s := second{tables.Read(data)}
+			for range 600 {
+				rows, want, fits := s.held(t, data, a.around(form))
+				switch {
+				case !fits:
+				case want != api.OK:
+					wrong++
+				case len(rows) > 0:
+					some++
+				default:
+					none++
+				}
+			}
+		}
+		if min(some, none, wrong) < 100 {
+			t.Errorf("the queries with %s are too much of one kind: %d with rows, %d without, %d with an error", form, some, none, wrong)
+		}
 	}
 }

@@ -2,6 +2,9 @@
 package plan
 
 import (
+	"slices"
+	"sync"
+
 	"bags/api"
 	"bags/tables"
 )
@@ -17,6 +20,7 @@ type Frame struct {
 	Entry
 	Around *Frame // that of the query around; nil: none is
 	Runner Runner
+	Spread bool // it is one goroutine's among several: were queries within spread again, goroutines would grow with the depth
 }
 
 // Runner answers a query within a condition, for the frame of which the condition is looked at.
@@ -63,6 +67,33 @@ type Selection struct {
 	Made     []Aggregate // what is worked out of each group ahead of Having and Items
 	Having   Cond
 	Items    []Expr
+
+	once    sync.Once
+	entries []Entry
+}
+
+// Entries puts the sources' rows side by side in all ways: once, as a query within is answered for row by row of the one around.
+func (s *Selection) Entries() []Entry {
+	s.once.Do(func() {
+		rows := [][]api.Value{nil}
+		for _, t := range s.Sources {
+			rows = sideBySide(rows, t.Rows)
+		}
+		for _, row := range rows {
+			s.entries = append(s.entries, Entry{Row: row})
+		}
+	})
+	return s.entries
+}
+
+func sideBySide(left, right [][]api.Value) [][]api.Value {
+	var rows [][]api.Value
+	for _, l := range left {
+		for _, r := range right {
+			rows = append(rows, slices.Concat(l, r))
+		}
+	}
+	return rows
 }
 
 // Aggregate is a count, sum, min or max of what Of is, for the rows of a group.

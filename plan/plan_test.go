@@ -4,9 +4,11 @@ import (
 	"math"
 	"math/big"
 	"slices"
+	"strings"
 	"testing"
 
 	"bags/api"
+	"bags/tables"
 )
 
 // asked works out an expression that needs no row.
@@ -96,6 +98,44 @@ func TestRow(t *testing.T) {
 	for _, items := range [][]Expr{{divide, overflow}, {overflow, divide}, {overflow, Column(0, 0)}} {
 		if _, met := Row(items)(f); met != api.ErrOverflow {
 			t.Errorf("P10: of all items' errors %d is told", met)
+		}
+	}
+}
+
+// rowsOf is a table of one column.
+func rowsOf(values ...api.Value) *tables.Table {
+	t := &tables.Table{}
+	for _, v := range values {
+		t.Rows = append(t.Rows, []api.Value{v})
+	}
+	return t
+}
+
+func TestEntries(t *testing.T) {
+	two, three := rowsOf(api.Int(1), api.Int(2)), rowsOf(api.Text("a"), api.Null{}, api.Text("a"))
+	for _, c := range []struct {
+		sources []*tables.Table
+		want    string
+	}{
+		{[]*tables.Table{two}, "1 2"},
+		{[]*tables.Table{rowsOf()}, ""},
+		{[]*tables.Table{two, rowsOf(), three}, ""},
+		{[]*tables.Table{two, three}, "1,'a' 1,null 1,'a' 2,'a' 2,null 2,'a'"},
+		{[]*tables.Table{two, two, rowsOf(api.Int(7))}, "1,1,7 1,2,7 2,1,7 2,2,7"},
+	} {
+		s := &Selection{Sources: c.sources}
+		for range 2 {
+			var rows []string
+			for _, entry := range s.Entries() {
+				var values []string
+				for _, v := range entry.Row {
+					values = append(values, v.Written())
+				}
+				rows = append(rows, strings.Join(values, ","))
+			}
+			if got := strings.Join(rows, " "); got != c.want {
+				t.Errorf("P10: the entries are %s, want %s", got, c.want)
+			}
 		}
 	}
 }

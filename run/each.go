@@ -21,11 +21,11 @@ func each[T any](at plan.Frame, list []plan.Entry, part plan.Part[T]) ([]T, api.
 			values[i], met[i] = part(&f)
 		}
 	}
-	// A query within is asked by a goroutine of the query around already: were it spread too, goroutines would grow with the depth.
-	if len(list) > share && at.Around == nil {
-		spread(len(list), work)
-	} else {
+	if at.Spread || len(list) <= share {
 		work(0, len(list))
+	} else {
+		at.Spread = true
+		spread(len(list), work)
 	}
 	return values, plan.Least(met...)
 }

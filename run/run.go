@@ -26,7 +26,7 @@ func (r *runner) query(q plan.Query, around *plan.Frame) (*Bag, api.Errno) {
 	case *plan.Joined:
 		return r.joined(q, around)
 	case *plan.Selection:
-		return selection(q, plan.Frame{Around: around, Runner: r})
+		return selection(q, plan.Frame{Around: around, Runner: r, Spread: around != nil && around.Spread})
 	}
 	panic("a query of no kind")
 }

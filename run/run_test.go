@@ -24,8 +24,8 @@ func numbers(n int) []plan.Entry {
 
 func TestEach(t *testing.T) {
 	for _, n := range []int{0, 1, share - 1, share, share + 1, 2 * share, 2*share + 1, 1728} {
-		for _, around := range []*plan.Frame{nil, {}} {
-			values, met := each(plan.Frame{Around: around}, numbers(n), plan.Column(0, 0))
+		for _, spread := range []bool{false, true} {
+			values, met := each(plan.Frame{Spread: spread}, numbers(n), plan.Column(0, 0))
 			if len(values) != n || met != api.OK {
 				t.Fatalf("of %d entries come %d values, %d", n, len(values), met)
 			}
@@ -69,6 +69,43 @@ func TestManyGoroutinesLook(t *testing.T) {
 		return 0, api.OK
 	}
 	each(plan.Frame{}, numbers(2*share), part)
+	// So it is within a query of which one goroutine alone looks at the condition.
+	both.Add(2)
+	each(plan.Frame{Around: &plan.Frame{}}, numbers(2*share), part)
+}
+
+// What a goroutine asks for among others is not spread again: it goes through one row behind the other.
+func TestGoroutinesDoNotGrowWithTheDepth(t *testing.T) {
+	for _, c := range []struct {
+		rows   int
+		around bool
+		spread bool
+	}{{share, false, false}, {share + 1, false, true}, {share, true, true}, {3 * share, true, true}} {
+		values, _ := each(plan.Frame{Spread: c.around}, numbers(c.rows), func(f *plan.Frame) (bool, api.Errno) { return f.Spread, api.OK })
+		if slices.Contains(values, !c.spread) {
+			t.Errorf("of %d rows (spread around: %v) some are not marked %v", c.rows, c.around, c.spread)
+		}
+	}
+	for _, spread := range []bool{false, true} {
+		within := false
+		see := func(f *plan.Frame) (plan.Truth, api.Errno) {
+			within = f.Spread
+			return plan.True, api.OK
+		}
+		newRunner().query(&plan.Selection{Sources: one(), Where: see}, &plan.Frame{Spread: spread})
+		if within != spread {
+			t.Errorf("the query within is marked %v, the one around %v", within, spread)
+		}
+	}
+	var seen []int
+	each(plan.Frame{Spread: true}, numbers(3*share), func(f *plan.Frame) (int, api.Errno) {
+		n, _ := f.Row[0].(api.Int)
+		seen = append(seen, int(n))
+		return 0, api.OK
+	})
+	if len(seen) != 3*share || !slices.IsSorted(seen) {
+		t.Errorf("the rows are gone through as %v", seen)
+	}
 }
 
 func TestPanicOfAGoroutine(t *testing.T) {

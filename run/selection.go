@@ -1,17 +1,14 @@
 package run
 
 import (
-	"slices"
-
 	"bags/api"
 	"bags/bag"
 	"bags/plan"
-	"bags/tables"
 )
 
 // selection answers a selection step by step: an error of one ends it ahead of the next (P10).
 func selection(s *plan.Selection, at plan.Frame) (*Bag, api.Errno) {
-	left, met := kept(at, entries(s.Sources), s.Where)
+	left, met := kept(at, s.Entries(), s.Where)
 	if met == api.OK && s.Groups {
 		left, met = grouped(s, at, left)
 	}
@@ -30,29 +27,6 @@ func selection(s *plan.Selection, at plan.Frame) (*Bag, api.Errno) {
 		out = bag.Once(out)
 	}
 	return out, api.OK
-}
-
-// entries puts the sources' rows side by side in all ways.
-func entries(sources []*tables.Table) []plan.Entry {
-	rows := sources[0].Rows
-	for _, t := range sources[1:] {
-		rows = sideBySide(rows, t.Rows)
-	}
-	list := make([]plan.Entry, len(rows))
-	for i, row := range rows {
-		list[i].Row = row
-	}
-	return list
-}
-
-func sideBySide(left, right [][]api.Value) [][]api.Value {
-	var rows [][]api.Value
-	for _, l := range left {
-		for _, r := range right {
-			rows = append(rows, slices.Concat(l, r))
-		}
-	}
-	return rows
 }
 
 // kept is the entries of which a condition is true.
